@@ -4,6 +4,7 @@ import (
 	"slices"
 
 	"entail/api"
+	"entail/list"
 	"entail/tree"
 )
 
@@ -59,33 +60,30 @@ func (w *world) reach(s shape) string {
 
 // explore finds the ways of a type.
 func (w *world) explore(r *reached) api.Errno {
+	base, e := w.base(r.shape)
+	if e != api.OK {
+		return e
+	}
 	if b, _, found := builtinOf(r.head); found {
 		if b.standard != nil {
 			r.ways = []way{{}}
 		}
 		return api.OK
 	}
-	d, _ := w.find(r.head)
-	if d.Op != api.DSubset && d.Op != api.DDatatype {
-		return api.OK
-	}
-	base, e := w.base(r.shape)
-	if e != api.OK {
+	switch d, _ := w.find(r.head); d.Op {
+	case api.DSubset:
+		r.ways = []way{{needs: []string{w.reach(base)}}}
+	case api.DDatatype:
+		constructors, e := w.constructors(base)
+		r.ways = list.Transform(constructors, w.wayOf)
 		return e
 	}
-	if d.Op == api.DSubset {
-		r.ways = []way{{needs: []string{w.reach(base)}}}
-		return api.OK
-	}
-	constructors, e := w.constructors(base)
-	for _, c := range constructors {
-		next := way{name: c.name}
-		for _, f := range c.fields {
-			next.needs = append(next.needs, w.reach(f.typ))
-		}
-		r.ways = append(r.ways, next)
-	}
-	return e
+	return api.OK
+}
+
+// wayOf returns the way to have a value by a constructor.
+func (w *world) wayOf(c constructor) way {
+	return way{c.name, list.Transform(c.fields, func(f member) string { return w.reach(f.typ) })}
 }
 
 // fill makes the rounds of the fixed point: each one adds the types that have a way by those of the rounds before.

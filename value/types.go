@@ -65,13 +65,13 @@ func baseOf(p api.Tree, typ string) (string, api.Errno) {
 	return types.Base(p, typ)
 }
 
-// meaning returns what the values of a type are. A type with an error has none.
+// meaning returns what the values of a type are. A type without a base has none.
 func (c catalog) meaning(typ string) meaning {
 	if m, found := c.meanings[typ]; found {
 		return m
 	}
 	m := meaning{op: noValues}
-	if base, e := baseOf(c.program, typ); e == api.OK {
+	if base, e := types.Base(c.program, typ); e == api.OK {
 		m = c.meaningOf(base)
 	}
 	c.meanings[typ] = m
