@@ -15,9 +15,10 @@ type declaration struct {
 	index int
 }
 
-// program is a flat program.
+// program is a flat program with the first declaration of each name.
 type program struct {
-	tree api.Tree
+	tree  api.Tree
+	named map[string]declaration
 }
 
 // programOf checks that a tree is a flat program.
@@ -28,7 +29,13 @@ func programOf(p api.Tree) (program, api.Errno) {
 	if !isFlat(p) {
 		return program{}, api.ErrKind
 	}
-	return program{p}, api.OK
+	out := program{p, map[string]declaration{}}
+	for d := range out.declarations() {
+		if _, found := out.find(d.Text); !found {
+			out.named[d.Text] = d
+		}
+	}
+	return out, api.OK
 }
 
 // isFlat reports whether a syntax tree is a flat program.
@@ -68,28 +75,22 @@ func (p program) at(node int) declaration { return declaration{p.tree[node], nod
 // kids returns the children that have one of some Ops.
 func (p program) kids(of declaration, ops ...int) []declaration {
 	var found []declaration
+children:
 	for _, kid := range of.Kids {
 		for _, op := range ops {
 			if p.tree[kid].Op == op {
 				found = append(found, p.at(kid))
+				continue children
 			}
 		}
 	}
 	return found
 }
 
-// find returns the first declaration that has a name.
+// find returns the declaration that has a name.
 func (p program) find(name string) (declaration, bool) {
-	var found declaration
-search:
-	for d := range p.declarations() {
-		switch d.Text {
-		case name:
-			found = d
-			break search
-		}
-	}
-	return found, found.Text != ""
+	d, found := p.named[name]
+	return d, found
 }
 
 // typeNamed returns the declaration of a type.
