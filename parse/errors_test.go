@@ -53,7 +53,7 @@ func TestDeep(t *testing.T) { // P4.1, P4.2
 	}{
 		{Expression, "(", "a", ")", 60, 60}, {Expression, "!", "a", "", 60, 60}, {Expression, "-", "1", "", 60, 60}, {Expression, "a==>", "a", "", 60, 240},
 		{Expression, "if a then b else ", "a", "", 60, 1006}, {Expression, "[", "", "]", 61, 60}, {Expression, "f(b, ", "a", ")", 60, 297},
-		{Type, "seq<", "int", ">", 60, 240}, {Type, "map<int, ", "int", ">", 60, 535}, {Pattern, "C(", "x", ")", 60, 120}, {Pattern, "C(y, ", "x", ")", 60, 297},
+		{Type, "seq<", "int", ">", 60, 240}, {Type, "map<int, ", "int", ">", 60, 535}, {Pattern, "C(", "x", ")", 60, 120}, {Pattern, "C(", "_", ")", 60, 120}, {Pattern, "C(y, ", "x", ")", 60, 297},
 		{Statement, "{", "", "}", 61, 60}, {Statement, "{", "return;", "}", 60, 60},
 	} {
 		nested := func(n int) string { return times(c.before, n) + c.inner + times(c.behind, n) }
@@ -71,6 +71,9 @@ func TestDeep(t *testing.T) { // P4.1, P4.2
 	} {
 		fails(t, Expression, c.text, c.at, c.want)
 	}
+	// A literal has one level more in a tree than in a text.
+	fails(t, Pattern, times("C(", 60)+"-7"+times(")", 60), 120, api.ErrDeep)
+	fails(t, Pattern, times("C(", 59)+"7"+times(")", 59), 0, api.ErrDeep)
 	// The condition of the last branch is inside of all branches.
 	elses := times("if a { } else ", 59)
 	fails(t, Statement, elses+"if a { }", 829, api.ErrDeep)

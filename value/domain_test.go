@@ -12,7 +12,7 @@ import (
 
 const declarations = "datatype M::List = M::Nil | M::Cons(head: bool, tail: M::List) datatype Box<T> = Full(x: T) | Empty datatype Color = Red | Blue type Nat = x: int | 0 <= x witness 0 type Nats = s: seq<Nat> | true witness [] " +
 	"class Cell { var v: int; } datatype Two<A, B> = Both(a: A, b: Nat, c: B) type Round = s: seq<Round> | true witness [] datatype Odd = Bad(r: Round) | Ill(x: Box) | Far(x: seq<Gone<int>>) | Any(x: Nowhere) | Fine " +
-	"datatype Tree = Node(l: Tree, r: Tree) | Leaf datatype Same = S(x: int) | S(x: bool) | S(y: int) datatype Twice = T(x: Twice) | T(y: Twice) | End datatype Pair = P(a: Color, b: bool, c: Cell) | Q(a: Color, b: bool) "
+	"datatype Tree = Node(l: Tree, r: Tree) | Leaf datatype Same = S(x: int) | S(x: bool) | S(y: int) datatype Twice = T(x: Twice) | T(y: Twice) | End datatype Pair = P(a: Color, b: bool, c: Cell) | Q(a: Color, b: bool) type Con = x: Red | true witness Red "
 
 func TestHasType(t *testing.T) { // P6.4
 	p := flat(t, declarations)
@@ -28,6 +28,7 @@ func TestHasType(t *testing.T) { // P6.4
 		{"Box<int>", []string{"Full(1)", "Empty()"}, []string{"Full(true)", "Full()", "Empty(1)"}}, {"Box<Nat>", []string{"Full(-1)"}, []string{"Full(1/1)"}}, {"Box<V>", []string{"Full(1)", "Full([true, 1])"}, []string{"T()"}}, {"Box<Box<Cell>>", []string{"Full(Full(#1))", "Full(Empty())"}, []string{"Full(Full(1))"}},
 		{"Two<int,V>", []string{"Both(1, -1, 2/1)"}, []string{"Both(1, true, 2/1)", "Both(true, 1, 1)"}},
 		{"Odd", []string{"Fine()", "Far([])", "Any(1)", "Any([true])"}, []string{"Bad([])", "Ill(Empty())", "Ill(1)", "Far([1])"}}, {"Same", []string{"S(1)", "S(true)"}, []string{"S(1/1)", "S()"}},
+		{"Con", nil, []string{"Red()", "1"}},
 		{"Twice", []string{times("T(", 58) + "End()" + times(")", 58)}, []string{times("T(", 58) + "1" + times(")", 58)}},
 	} {
 		for _, s := range c.yes {
@@ -110,7 +111,7 @@ func TestDomain(t *testing.T) { // P6.4
 		{"map<int,Cell>", 2, "map[]", false}, {"map<Cell,int>", 2, "map[]", false}, {"Color", 0, "Red(); Blue()", true}, {"M::List", 0, "M::Nil()", false}, {"M::List", 1, "M::Nil(); M::Cons(false, M::Nil()); M::Cons(true, M::Nil())", false},
 		{"Box<Nat>", 1, "Full(0); Empty()", false}, {"Box<Box<bool>>", 2, "Full(Full(false)); Full(Full(true)); Full(Empty()); Empty()", false}, {"Two<bool,Color>", 1, "Both(false, 0, Red()); Both(false, 0, Blue()); Both(true, 0, Red()); Both(true, 0, Blue())", false},
 		{"Tree", 2, "Node(Node(Leaf(), Leaf()), Node(Leaf(), Leaf())); Node(Node(Leaf(), Leaf()), Leaf()); Node(Leaf(), Node(Leaf(), Leaf())); Node(Leaf(), Leaf()); Leaf()", false},
-		{"Cell", 4, "", false}, {"array<int>", 4, "", false}, {"V", 4, "", false}, {"Box<V>", 4, "Empty()", false}, {"seq<V>", 4, "[]", false}, {"Odd", 4, "Far([]); Fine()", false}, {"Pair", 1, "Q(Red(), false); Q(Red(), true); Q(Blue(), false); Q(Blue(), true)", false},
+		{"Cell", 4, "", false}, {"array<int>", 4, "", false}, {"V", 4, "", false}, {"Box<V>", 4, "Empty()", false}, {"seq<V>", 4, "[]", false}, {"Odd", 4, "Far([]); Fine()", false}, {"Con", 4, "", false}, {"seq<Con>", 4, "[]", false}, {"Pair", 1, "Q(Red(), false); Q(Red(), true); Q(Blue(), false); Q(Blue(), true)", false},
 		{"Same", 1, "S(0); S(false); S(true)", false}, {"Same", 2, "S(0); S(1); S(-1); S(false); S(true)", false}, {"Nats", 1, "[]; [0]", false}, {"set<Color>", 1, "{}; {Red()}; {Blue()}", false},
 	} {
 		l, complete, e := Domain(p, c.typ, c.size)
