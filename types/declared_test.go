@@ -364,3 +364,44 @@ func TestFinite(t *testing.T) { // P5.3
 		}
 	}
 }
+
+// TestFiniteReach asks for types of which the rules reach others: whether one of them has an error matters for all three functions.
+func TestFiniteReach(t *testing.T) { // P5.3
+	round, tight := "type S = x: S | true witness 0 ", "datatype L<T> = N class Cell { var l: L; var s: S; } "
+	deep, nested := "datatype Deep<T> = A | B(d: "+times("seq<", 40)+"T"+times(">", 40)+") ", times("set<", 19)+"int"+times(">", 19)
+	for _, c := range []struct {
+		text, typ string
+		want      api.Errno
+	}{
+		{"datatype Grow<T> = G(g: Grow<seq<T>>) | H", "Grow<int>", api.ErrLong}, {"datatype Long = A | B(w: Wide<" + longest + ">) datatype Wide<T> = W(x: map<T, T>)", "Long", api.ErrLong},
+		{deep, "Deep<" + nested + ">", api.OK}, {deep, "Deep<set<" + nested + ">>", api.ErrLong}, {deep + "datatype D = A | C(c: Deep<set<" + nested + ">>)", "D", api.ErrLong},
+		{round + "datatype D = A | B(s: S)", "D", api.ErrCycle}, {round + "datatype D = A | B(s: seq<S>)", "D", api.ErrCycle}, {round + "datatype D = A | B(c: C) datatype C = E(f: D, s: map<int, S>)", "D", api.ErrCycle},
+		{round + "type R = d: D | true witness A datatype D = A | B(s: S)", "R", api.ErrCycle}, {round + "datatype D<T> = A | B(t: T) datatype C = E(d: D<S>)", "C", api.ErrCycle},
+		{tight + "datatype D = A | B(l: L)", "D", api.ErrArgs}, {tight + "datatype D = A | B(c: C) datatype C = E(l: L)", "D", api.ErrArgs}, {tight + "datatype D = A | B(l: L<int, int>)", "D", api.ErrArgs},
+		{tight + "datatype D<T> = A | B(t: T) datatype C = E(d: D<L>)", "C", api.ErrArgs}, {tight + "type R = d: D | true witness A datatype D = A | B(l: L)", "R", api.ErrArgs},
+		{row(199, 1, "E"), "D0", api.OK}, {row(200, 1, "E"), "D0", api.ErrLimit}, {row(300, 2, "E"), "D0", api.ErrLimit}, {row(200, 1, "E"), "D1", api.OK},
+		{row(198, 1, "E") + " type R = d: D0 | true witness E", "R", api.OK}, {row(199, 1, "E") + " type R = d: D0 | true witness E", "R", api.ErrLimit},
+		{"datatype More<S, T> = F(x: More<seq<S>, T>, y: More<S, seq<T>>) | G", "More<int,int>", api.ErrLimit},
+		// The rules do not reach the elements of collections, the fields of classes and names that nothing declares.
+		{tight + "datatype D = A | B(l: seq<L>)", "D", api.OK}, {tight + "datatype D = A | B(l: array<L>, m: L<L>)", "D", api.OK}, {tight + round + "datatype D = A | B(c: Cell)", "D", api.OK},
+		{"datatype D = A | B(n: Nowhere<int>)", "D", api.OK}, {row(300, 1, "E") + " datatype D = A | B(d: set<D0>)", "D", api.OK},
+	} {
+		p := flat(t, c.text)
+		if is, e := Finite(p, c.typ); is || e != c.want {
+			t.Errorf("Finite(%q) of %.60q: %v, %d, want %d", c.typ, c.text, is, e, c.want)
+		}
+		if _, e := Inhabited(p, c.typ, nil); e != c.want {
+			t.Errorf("Inhabited(%q) of %.60q: %d, want %d", c.typ, c.text, e, c.want)
+		}
+		if _, e := Default(p, c.typ); e != c.want && (c.want != api.OK || e != api.ErrDeep) {
+			t.Errorf("Default(%q) of %.60q: %d, want %d", c.typ, c.text, e, c.want)
+		}
+	}
+	// What a finite type does not reach has no errors for it.
+	p := flat(t, round+tight+row(300, 1, "E")+" datatype Color<T> = Red | Green type Paint = c: Color<S> | true witness Red type Shade = c: Color<Color<D0>> | true witness Red")
+	for s, want := range map[string]api.Errno{"Color<D0>": api.OK, "Color<Cell>": api.OK, "Shade": api.OK, "Color<Shade>": api.OK, "Paint": api.ErrCycle, "Color<S>": api.ErrCycle} {
+		if is, e := Finite(p, s); is != (want == api.OK) || e != want {
+			t.Errorf("Finite(%q): %v, %d, want %d", s, is, e, want)
+		}
+	}
+}

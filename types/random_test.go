@@ -81,8 +81,8 @@ func TestRandomPrograms(t *testing.T) { // P5.2, P5.3, P5.4
 			if f == api.OK && (is != (len(d) > 0) || is == (g == api.ErrEmpty)) {
 				t.Fatalf("Default(%q): %d nodes, %d, Inhabited %v", s, len(d), g, is)
 			}
-			if finite, h := Finite(p, s); finite && (h != api.OK || f == api.OK && !is) {
-				t.Fatalf("Finite(%q): %v, %d", s, finite, h)
+			if finite, h := Finite(p, s); h != f || finite && !is {
+				t.Fatalf("Finite(%q): %v, %d, Inhabited %v, %d", s, finite, h, is, f)
 			}
 			Constructors(p, s)
 			Fields(p, s)

@@ -134,6 +134,18 @@ func (w *world) best(r *reached) int {
 // isInhabited reports whether the type that the world is made from has a value.
 func (w *world) isInhabited() bool { return w.types[w.names[0]].round > 0 }
 
+// isFinite reports whether the type that the world is made from has finitely many values.
+func (w *world) isFinite() bool {
+	r := w.types[w.names[0]]
+	if d, _ := w.find(r.head); d.Op == api.DSubset {
+		r = w.types[r.ways[0].needs[0]]
+	}
+	if d, _ := w.find(r.head); d.Op != api.DDatatype {
+		return slices.Contains([]string{"bool", "bv1", "bv2", "bv3", "bv4"}, r.head)
+	}
+	return !slices.ContainsFunc(r.ways, func(v way) bool { return len(v.needs) > 0 })
+}
+
 // parts returns the root of a default expression, if it stands alone, or the types that it takes values of.
 func (w *world) parts(r *reached) (api.Tree, way) {
 	if b, width, found := builtinOf(r.head); found {
@@ -180,17 +192,4 @@ func (w *world) standard(name string) api.Tree {
 		kids = append(kids, w.standard(need))
 	}
 	return joined(api.ECons, taken.name, kids...)
-}
-
-// isFinite reports whether the base of a type has finitely many values.
-func (p program) isFinite(s shape) (bool, api.Errno) {
-	base, e := p.base(s)
-	if e != api.OK {
-		return false, e
-	}
-	if d, _ := p.find(base.head); d.Op != api.DDatatype {
-		return slices.Contains([]string{"bool", "bv1", "bv2", "bv3", "bv4"}, base.head), api.OK
-	}
-	constructors, e := p.constructors(base)
-	return e == api.OK && !slices.ContainsFunc(constructors, func(c constructor) bool { return len(c.fields) > 0 }), e
 }

@@ -121,6 +121,17 @@ func TestDomain(t *testing.T) { // P6.4
 	}
 }
 
+// TestUnsettledDomains asks for types that types.Finite has an error for: this is no error of the domain, which is not complete.
+func TestUnsettledDomains(t *testing.T) { // P6.4
+	p := flat(t, "datatype Grow<T> = G(g: Grow<seq<T>>) | H type S = x: S | true witness 0 datatype D = A | B(s: S) datatype L<T> = N datatype F = I | J(l: L)")
+	for typ, want := range map[string]string{"Grow<int>": "G(G(H())); G(H()); H()", "D": "A()", "F": "I()"} {
+		l, complete, e := Domain(p, typ, 2)
+		if shown(l) != want || complete || e != api.OK {
+			t.Errorf("Domain(%s, 2): %s, %v, %d, want %s", typ, shown(l), complete, e, want)
+		}
+	}
+}
+
 func TestLargeDomains(t *testing.T) { // P6.4, P6.5
 	p := flat(t, declarations)
 	for _, c := range []struct {
