@@ -329,6 +329,9 @@ func TestConsequences(t *testing.T) { // P8.4
 		}
 		alone := 0
 		for node, typ := range l {
+			if class, _ := tree.Class(p[node].Op); (typ != "") != (class == tree.Expression || class == tree.Pattern) {
+				t.Errorf("the node %d of the class %d has the type %q", node, class, typ)
+			}
 			if class, _ := tree.Class(p[node].Op); typ == "" || class != tree.Expression {
 				continue
 			}
