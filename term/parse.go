@@ -276,17 +276,18 @@ func (p *parser) takeTrigger() bool {
 // variables reads the variables of a quantifier.
 func (p *parser) variables() []api.Bound {
 	var vars []api.Bound
-	p.require(is(opening))
+	take := p.require
+	take(is(opening))
 	for p.failed == api.OK && (len(vars) == 0 || p.next.text != closing) {
-		p.require(is(opening))
-		name := p.require(token.isVariable)
-		sort := p.require(token.isWord)
+		take(is(opening))
+		name := take(token.isVariable)
+		sort := take(token.isWord)
 		if p.isNoSort(sort.text) {
 			p.fail(api.ErrSort, sort)
 		}
-		p.require(is(closing))
+		take(is(closing))
 		vars = append(vars, api.Bound{Name: name.text, Sort: sort.text})
 	}
-	p.require(is(closing))
+	take(is(closing))
 	return vars
 }
