@@ -241,7 +241,7 @@ func (c *catalog) base(s *shape, values map[string]*shape) *shape {
 	if d, found := c.subset(s); found {
 		return c.baseOf(d)
 	}
-	if value, found := values[s.head]; found && s.is(s.head) {
+	if value, found := values[s.head]; found && len(s.args) == 0 {
 		return value
 	}
 	out := made(s.head)

@@ -156,6 +156,8 @@ func TestTypeErrors(t *testing.T) { // P8.2
 		{"fresh(i)", 1, api.ErrType}, {"fresh(l)", 1, api.ErrType}, {"fresh({c})", 2, api.ErrType}, {"old(x)", 0, api.ErrUnknown},
 		{"y", 0, api.ErrUnknown}, {"len", 0, api.ErrUnknown}, {"M::d", 0, api.ErrUnknown}, {"Cell(1)", 1, api.ErrUnknown}, {"List", 0, api.ErrUnknown}, {"nope(1)", 1, api.ErrUnknown}, {"m()", 0, api.ErrUnknown}, {"k()", 0, api.ErrUnknown}, {"(forall x: int :: b) == x", 4, api.ErrUnknown},
 		{"len()", 0, api.ErrArgs}, {"len(l, 1)", 2, api.ErrArgs}, {"Cons(1)", 1, api.ErrArgs}, {"Nil(1)", 1, api.ErrArgs}, {"none(x)", 0, api.ErrUnknown}, {"len(1 + b, 2)", 2, api.ErrType},
+		// No type is a part of itself.
+		{"var x := []; x == [x]", 4, api.ErrType}, {"var x := Nil; Cons(x, x)", 3, api.ErrType}, {"var x := {}; var y := [x]; x == {y}", 6, api.ErrType}, {"var x := []; both(map[x := 1], map[[x] := 1])", 8, api.ErrType}, {"var x := []; both([x], x)", 4, api.ErrType},
 		// What is asked at a node, and later.
 		{"b + b == 1", 4, api.ErrType}, {"-b + 1", 3, api.ErrType}, {"-b == -s", 4, api.ErrType}, {"(b as int) + -b", 5, api.ErrType}, {"-b < #i", 3, api.ErrType},
 	})

@@ -69,6 +69,12 @@ func TestLong(t *testing.T) { // P8.2
 			t.Errorf("%s: %d, want %d", s, e, want)
 		}
 	}
+	vars[0].Sort = sized(391)
+	checkProblems(t, p, vars, []problem{{"Two(e, 1)", 2, api.ErrLong}})
+	vars[0].Sort = sized(390)
+	if _, e := TypeOf(p, expr(t, "Two(e, 1)"), vars); e != api.OK {
+		t.Errorf("a type of 400 bytes: %d", e)
+	}
 	vars[0].Sort = sized(375)
 	checkProblems(t, p, vars, []problem{{"all(Two(e, 1))", 2, api.ErrLong}, {"all(One(e)) && -b == b", 4, api.ErrType}, {"any(Ghost(1)) && all(One(e))", 1, api.ErrOpen}})
 	if _, e := TypeOf(p, expr(t, "fits(Two(e, 1))"), vars); e != api.OK {

@@ -73,15 +73,12 @@ func (s *shape) addArgument() *shape {
 	return arg
 }
 
-// is reports whether a type is a name without arguments.
-func (s *shape) is(name string) bool { return s.head == name && len(s.args) == 0 }
-
 // put returns a type in which names without arguments are replaced by types.
 func (s *shape) put(values map[string]*shape) *shape {
-	if value, found := values[s.head]; found && s.is(s.head) {
-		return value
-	}
 	if len(s.args) == 0 {
+		if value, found := values[s.head]; found {
+			return value
+		}
 		return s
 	}
 	out := made(s.head)

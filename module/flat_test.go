@@ -15,6 +15,7 @@ import (
 var wrongFlats = []where{
 	{"module A { } module B refines A { const c: int := d; }", api.MRefines, "A", 0, api.ErrRefine},
 	{"module B { const c: int := d; } module C refines B { } module A refines B { }", api.MRefines, "B", 0, api.ErrRefine},
+	{"module B refines A { const c: int := d; } module A { }", api.MRefines, "A", 0, api.ErrRefine},
 	{"module A { const c: int := d; }", api.EVar, "d", 0, api.ErrUnknown},
 	{"module A { const c: D := 1; }", api.TName, "D", 0, api.ErrUnknown},
 	{"module A { const c: seq<B::D> := 1; }", api.TName, "B::D", 0, api.ErrUnknown},

@@ -201,6 +201,12 @@ func TestWrongPrograms(t *testing.T) { // P7.1, P7.2
 			t.Errorf("Names: %d, want %d", e, c.e)
 		}
 	}
+	for _, s := range []string{"x", "!!x", "[x]"} {
+		x, _, _ := parse.Expression(s)
+		if _, e := Names(x); e != api.ErrKind {
+			t.Errorf("Names of %s: %d", s, e)
+		}
+	}
 	p := read(t, exampleText)
 	_, e := Exports(p, "C")
 	_, f := Visible(p, "C")

@@ -103,6 +103,9 @@ func TestCheckForm(t *testing.T) { // P9.1
 		if got := []api.Errno{e, f, g, h, k, l, m}; c.want != api.OK && !slices.Equal(got, slices.Repeat([]api.Errno{c.want}, 7)) {
 			t.Errorf("%d: %v, want %d", i, got, c.want)
 		}
+		if alike, _ := Alpha(c.t, c.t); alike != (c.want == api.OK) {
+			t.Errorf("%d: Alpha", i)
+		}
 		if c.want != api.OK {
 			_, n := NNF(c.t)
 			_, _, o := Skolem(c.t, "")
@@ -245,6 +248,11 @@ func TestQuantify(t *testing.T) { // P9.2
 		got, e := Quantify(c.op, c.vars, c.triggers, c.body)
 		if e != c.e || e == api.OK && text(t, got) != c.want || e != api.OK && got != nil {
 			t.Errorf("%d: %d, want %d", i, e, c.e)
+		}
+	}
+	for n, want := range map[int]api.Errno{1998: api.OK, 1999: api.ErrMany} {
+		if _, e := Quantify(api.LForall, x, nil, read(t, "(and"+strings.Repeat(" ?u", n)+")")); e != want {
+			t.Errorf("%d nodes: %d, want %d", n+2, e, want)
 		}
 	}
 	q, _ := Quantify(api.LForall, x, nil, body)

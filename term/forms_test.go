@@ -92,7 +92,7 @@ func TestLargeSubst(t *testing.T) { // P9.3
 		x, by api.Terms
 		want  api.Errno
 	}{
-		{wide(2000), wide(2000), api.ErrLarge}, {wide(3), wide(1000), api.ErrLarge}, {wide(3), wide(999), api.OK}, {wide(2), wide(1999), api.OK}, {wide(2), wide(2000), api.ErrLarge}, {deep(30), deep(31), api.OK}, {deep(30), deep(32), api.ErrDeep}, {deep(60), deep(60), api.ErrDeep}, {deep(60), wide(2000), api.ErrLarge}, {wide(3), deep(60), api.ErrDeep},
+		{wide(2000), wide(2000), api.ErrLarge}, {wide(3), wide(1000), api.ErrLarge}, {wide(3), wide(999), api.OK}, {wide(2), wide(1999), api.OK}, {wide(2), wide(2000), api.ErrLarge}, {deep(30), deep(31), api.OK}, {deep(30), deep(32), api.ErrDeep}, {deep(60), deep(60), api.ErrDeep}, {deep(60), wide(2000), api.ErrLarge}, {wide(3), deep(60), api.ErrDeep}, {read(t, "?u"), wide(2000), api.OK},
 	} {
 		if got, e := Subst(c.x, []Binding{{"u", c.by}}); e != c.want || (got == nil) != (e != api.OK) {
 			t.Errorf("%d: %d, want %d", i, e, c.want)
@@ -162,8 +162,9 @@ func TestNNF(t *testing.T) { // P9.4
 	}
 	deep := func(n int, s string) string { return strings.Repeat("(not ", n) + s + strings.Repeat(")", n) }
 	for s, want := range map[string]api.Errno{
-		nest(7, "?v"): api.OK, nest(8, "?v"): api.OK, nest(9, "?v"): api.ErrLarge, nest(59, "?v"): api.ErrLarge, deep(59, "?u"): api.OK, deep(1, "(and"+strings.Repeat(" ?u", 999)+")"): api.OK, deep(1, "(and"+strings.Repeat(" ?u", 1000)+")"): api.ErrLarge, "(and" + strings.Repeat(" (not ?u)", 999) + ")": api.OK,
-		strings.Repeat("(=> ", 58) + "?u" + strings.Repeat(" ?u)", 58): api.OK, strings.Repeat("(=> ", 59) + "?u" + strings.Repeat(" ?u)", 59): api.ErrDeep, strings.Repeat("(ite ?u ", 25) + "?u" + strings.Repeat(" ?u)", 25): api.OK, strings.Repeat("(ite ?u ", 30) + "?u" + strings.Repeat(" ?u)", 30): api.ErrDeep, "(not " + strings.Repeat("(and ", 58) + "?u" + strings.Repeat(")", 59): api.OK, strings.Repeat("(ite ?u ", 29) + "?u" + strings.Repeat(" ?u)", 29): api.OK,
+		nest(7, "?v"): api.OK, nest(8, "?v"): api.OK, nest(9, "?v"): api.ErrLarge, nest(59, "?v"): api.ErrLarge, deep(59, "?u"): api.OK, deep(1, "(and"+strings.Repeat(" ?u", 999)+")"): api.OK, deep(1, "(and"+strings.Repeat(" ?u", 1000)+")"): api.ErrLarge, "(and" + strings.Repeat(" (not ?u)", 999) + ")": api.OK, "(not (and (not ?v)" + strings.Repeat(" ?u", 999) + "))": api.OK, "(not (and (not ?v) (not ?v)" + strings.Repeat(" ?u", 999) + "))": api.ErrLarge,
+		"(forall ((x E)) (! " + strings.Repeat("(f ", 57) + "?x" + strings.Repeat(")", 57) + ") true)": api.OK,
+		strings.Repeat("(=> ", 58) + "?u" + strings.Repeat(" ?u)", 58):                                 api.OK, strings.Repeat("(=> ", 59) + "?u" + strings.Repeat(" ?u)", 59): api.ErrDeep, strings.Repeat("(ite ?u ", 25) + "?u" + strings.Repeat(" ?u)", 25): api.OK, strings.Repeat("(ite ?u ", 30) + "?u" + strings.Repeat(" ?u)", 30): api.ErrDeep, "(not " + strings.Repeat("(and ", 58) + "?u" + strings.Repeat(")", 59): api.OK, strings.Repeat("(ite ?u ", 29) + "?u" + strings.Repeat(" ?u)", 29): api.OK,
 		strings.Repeat("(and ", 40) + strings.Repeat("(iff ?u ", 8) + "?v" + strings.Repeat(")", 48): api.OK, strings.Repeat("(and ", 42) + strings.Repeat("(iff ?u ", 8) + "?v" + strings.Repeat(")", 50): api.OK, strings.Repeat("(and ", 43) + strings.Repeat("(iff ?u ", 8) + "?v" + strings.Repeat(")", 51): api.ErrDeep,
 	} {
 		x, e := NNF(read(t, s))
@@ -210,7 +211,7 @@ func TestSkolem(t *testing.T) { // P9.4
 		{"(p c)", "", api.ErrName}, {"(p c)", "-", api.ErrName}, {"(p c)", "a b", api.ErrName}, {"(p c)", strings.Repeat("x", 199), api.OK}, {"(p c)", strings.Repeat("x", 200), api.ErrName}, {"(p c)", "?", api.ErrName}, {"(p c)", "=", api.ErrName}, {"(p c)", "true", api.OK}, {"(p c)", "len$Seq<E>", api.OK},
 		{"(exists ((y E)) (q ?y k0))", "k", api.ErrTwice}, {"(exists ((y E)) (q ?y k1))", "k", api.OK}, {"(p k0)", "k", api.OK}, {"(exists ((y E)) (= k0 (ite (exists ((y E)) true) ?y c)))", "", api.ErrTwice}, {"(exists ((y E)) (p k0))", "", api.ErrName},
 		{"(exists ((y E)) (forall ((y E)) (p ?y)))", "k", api.ErrTwice}, {"(forall ((y E)) (p (ite (exists ((z E) (y E)) true) c d)))", "k", api.ErrTwice}, {"(forall ((y E)) (! (ite (exists ((y E)) true) c d)) (p ?y))", "k", api.ErrTwice}, {"(and (exists ((y E)) (p ?y)) (forall ((y E)) (p ?y)))", "k", api.OK},
-		{"(forall (" + universal(12) + ") (exists ((y E)) (and" + strings.Repeat(" (p ?y)", 100) + ")))", "k", api.OK}, {"(forall (" + universal(12) + ") (exists ((y E)) (and" + strings.Repeat(" (p ?y)", 142) + ")))", "k", api.OK}, {"(forall (" + universal(12) + ") (exists ((y E)) (and" + strings.Repeat(" (p ?y)", 143) + ")))", "k", api.ErrLarge},
+		{"(forall (" + universal(12) + ") (exists ((y E)) (and" + strings.Repeat(" (p ?y)", 100) + ")))", "k", api.OK}, {"(forall (" + universal(12) + ") (exists ((y E)) (and" + strings.Repeat(" (p ?y)", 142) + ")))", "k", api.OK}, {"(forall (" + universal(12) + ") (exists ((y E)) (and" + strings.Repeat(" (p ?y)", 143) + ")))", "k", api.ErrLarge}, {"(forall (" + universal(12) + ") (exists ((y E)) (and" + strings.Repeat(" (p ?y)", 142) + strings.Repeat(" true", 10) + ")))", "k", api.OK}, {"(forall (" + universal(12) + ") (exists ((y E)) (and" + strings.Repeat(" (p ?y)", 142) + strings.Repeat(" true", 11) + ")))", "k", api.ErrLarge},
 		{"(forall ((x E)) (exists ((y E)) (p " + strings.Repeat("(f ", 56) + "?y" + strings.Repeat(")", 56) + ")))", "k", api.OK}, {"(exists ((y E)) (p " + strings.Repeat("(f ", 57) + "?y" + strings.Repeat(")", 57) + "))", "k", api.OK}, {"(exists ((y E)) (forall ((x E)) (exists ((z E)) (q ?z " + strings.Repeat("(f ", 54) + "?y" + strings.Repeat(")", 54) + "))))", "k", api.OK}, {strings.Repeat("(and ", 57) + "(forall ((x E)) (exists ((y Bool)) ?y))" + strings.Repeat(")", 57), "k", api.OK}, {"(forall ((a E)) (and (exists ((y E)) (p ?y)) (p " + strings.Repeat("(f ", 56) + "?a" + strings.Repeat(")", 56) + ")))", "k", api.OK},
 	} {
 		larger := sig()

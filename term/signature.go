@@ -140,9 +140,11 @@ func (s signature) checkCycles() api.Errno {
 			})
 		}
 	}
+	// If a key sort reaches a datatype that reaches the map, all datatypes in the key reach it, too: one of them is a
+	// key of a map that it reaches itself.
 	reach := s.reach()
 	for _, d := range s.Datas {
-		if !finite[d.Sort] || s.isKeyOfItself(d.Sort, reach) {
+		if !finite[d.Sort] || reach[d.Sort].keys[d.Sort] {
 			return api.ErrCycle
 		}
 	}
@@ -227,9 +229,4 @@ func keysOf(m map[string]bool) []string {
 	}
 	slices.Sort(keys)
 	return keys
-}
-
-// isKeyOfItself reports whether a datatype reaches a map whose key sort reaches the datatype.
-func (s signature) isKeyOfItself(sort string, reach map[string]reached) bool {
-	return slices.ContainsFunc(keysOf(reach[sort].keys), func(key string) bool { return key == sort || reach[key].datas[sort] })
 }

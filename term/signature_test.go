@@ -125,6 +125,12 @@ func TestParts(t *testing.T) { // P9.1
 			t.Errorf("Parts(%q): %q, %d, want %q", sort, got, e, want)
 		}
 	}
+	s.Sorts = append(s.Sorts, "Five5", "Sixsix")
+	for sort, want := range map[string]api.Errno{"Five5": api.OK, "Sixsix": api.ErrSort} {
+		if _, _, e := Parts(s, strings.Repeat("Set<", 79)+sort+strings.Repeat(">", 79)); e != want {
+			t.Errorf("a sort of %d bytes: %d, want %d", 395+len(sort), e, want)
+		}
+	}
 	deep := strings.Repeat("Seq<", 79) + "Real" + strings.Repeat(">", 79)
 	for sort, want := range map[string]api.Errno{deep: api.OK, strings.Repeat("Seq<", 79) + "Bool" + strings.Repeat(">", 79): api.OK, "Set<" + deep + ">": api.ErrSort} {
 		if _, _, e := Parts(s, sort); e != want {
