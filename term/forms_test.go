@@ -252,16 +252,70 @@ func TestSimplify(t *testing.T) { // P9.4
 			t.Errorf("Simplify(%s): %s, %d, want %s", s, text(t, got), e, want)
 		}
 	}
-	// Numerals of different sorts in a term that is not well-sorted.
-	mixed := api.Terms{{Op: api.LNum, Sort: "Int", Name: "1"}, {Op: api.LNum, Sort: "Real", Name: "1/1"}, {Op: api.LAdd, Sort: "Int", Kids: []int{0, 1}}}
-	if got, e := Simplify(mixed); !Same(got, mixed) || e != api.OK {
-		t.Errorf("Simplify: %v, %d", got, e)
-	}
 	// The result is new memory.
 	x := read(t, "(forall ((x E)) (p ?x))")
 	got, _ := Simplify(x)
 	got[2].Vars[0].Name, got[2].Kids[0] = "changed", 7
 	if text(t, x) != "(forall ((x E)) (p ?x))" {
 		t.Error("a term that is changed")
+	}
+}
+
+// numeral returns the numeral of a number; those with a slash are of the sort Real.
+func numeral(name string) api.Terms {
+	sort := "Int"
+	if strings.Contains(name, "/") {
+		sort = "Real"
+	}
+	return api.Terms{{Op: api.LNum, Sort: sort, Name: name}}
+}
+
+func TestSimplifyNumeralsOfAllSorts(t *testing.T) { // P9.4
+	// The form of a term does not say that the sorts of its nodes fit together.
+	nines := strings.Repeat("9", 120)
+	for _, c := range []struct {
+		op         int
+		a, b, want string
+	}{
+		{api.LAdd, "1/2", "1/2", "1/1"}, {api.LSub, "1/2", "1/3", "1/6"}, {api.LMul, "-2/3", "3/4", "-1/2"}, {api.LAdd, "2", "3", "5"}, {api.LSub, "2", "3", "-1"}, {api.LMul, "-2", "3", "-6"},
+		{api.LAdd, "1", "1/1", "2/1"}, {api.LAdd, "1/2", "-1", "-1/2"}, {api.LSub, "1", "1/3", "2/3"}, {api.LMul, "0", "1/3", "0/1"}, {api.LMul, "2/3", "3", "2/1"},
+		{api.LAdd, nines, "0/1", nines + "/1"}, {api.LSub, nines, nines + "/1", "0/1"}, {api.LAdd, nines, "1", ""}, {api.LAdd, nines, "1/2", ""}, {api.LMul, nines + "/1", "2", ""}, {api.LSub, "-" + nines + "/1", "1/1", ""},
+	} {
+		for _, sort := range []string{"Int", "Real"} {
+			x := joined(api.Term{Op: c.op, Sort: sort}, numeral(c.a), numeral(c.b))
+			want := x
+			if c.want != "" {
+				want = numeral(c.want)
+			}
+			if got, e := Simplify(x); !Same(got, want) || e != api.OK {
+				t.Errorf("the operation %d of the sort %s on %s and %s: %v, %d", c.op, sort, c.a, c.b, got, e)
+			}
+		}
+	}
+	for _, c := range []struct {
+		a, b string
+		way  int
+	}{{"1", "2", -1}, {"1/2", "1/3", 1}, {"1/2", "1", -1}, {"1", "1/1", 0}, {"-" + nines, "-1/2", -1}, {nines + "/1", nines, 0}, {"7", "7", 0}} {
+		less, most := joined(api.Term{Op: api.LLt, Sort: "Bool"}, numeral(c.a), numeral(c.b)), joined(api.Term{Op: api.LLe, Sort: "Bool"}, numeral(c.a), numeral(c.b))
+		isLess, e := Simplify(less)
+		isMost, f := Simplify(most)
+		if !Same(isLess, Bool(c.way < 0)) || !Same(isMost, Bool(c.way <= 0)) || e != api.OK || f != api.OK {
+			t.Errorf("%s and %s: %v, %d, %v, %d", c.a, c.b, isLess, e, isMost, f)
+		}
+	}
+	// Results are the numerals of further operations.
+	half := numeral("1/2")
+	sum := joined(api.Term{Op: api.LAdd, Sort: "Int"}, joined(api.Term{Op: api.LMul, Sort: "Int"}, half, half), half)
+	for _, c := range []struct{ x, want api.Terms }{
+		{sum, numeral("3/4")}, {joined(api.Term{Op: api.LEq, Sort: "Bool"}, sum, numeral("3/4")), Bool(true)}, {joined(api.Term{Op: api.LEq, Sort: "Bool"}, numeral("1"), numeral("1/1")), Bool(false)}, {joined(api.Term{Op: api.LLt, Sort: "Bool"}, sum, numeral("1")), Bool(true)},
+	} {
+		if got, e := Simplify(c.x); !Same(got, c.want) || e != api.OK {
+			t.Errorf("Simplify(%v): %v, %d", c.x, got, e)
+		}
+	}
+	// A sum with a child that is no numeral stays.
+	open := joined(api.Term{Op: api.LAdd, Sort: "Int"}, half, Var("x", "E"))
+	if got, e := Simplify(open); !Same(got, open) || e != api.OK {
+		t.Errorf("Simplify: %v, %d", got, e)
 	}
 }

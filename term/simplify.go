@@ -117,9 +117,19 @@ func areNumerals(terms []api.Terms) bool {
 	return !slices.ContainsFunc(terms, func(t api.Terms) bool { return opOf(t) != api.LNum })
 }
 
-// areNumeralsOf reports whether all terms are numerals of a sort.
-func areNumeralsOf(sort string, terms []api.Terms) bool {
-	return areNumerals(terms) && !slices.ContainsFunc(terms, func(t api.Terms) bool { return rootSort(t) != sort })
+// numbers returns the numerals of terms as ones of one sort, which is Real if one of them is. The sorts of the terms need
+// not fit together, because the form of a term does not say so.
+func numbers(terms []api.Terms) (string, []string) {
+	names := list.Transform(terms, func(t api.Terms) string { return t[0].Name })
+	if !slices.ContainsFunc(terms, func(t api.Terms) bool { return rootSort(t) == api.SortReal }) {
+		return api.SortInt, names
+	}
+	for i, t := range terms {
+		if rootSort(t) == api.SortInt {
+			names[i], _ = num.Real(names[i], "1")
+		}
+	}
+	return api.SortReal, names
 }
 
 func equality(n api.Term, kids []api.Terms) api.Terms {
@@ -134,31 +144,31 @@ func equality(n api.Term, kids []api.Terms) api.Terms {
 
 // calculation simplifies an operation on numbers.
 func calculation(n api.Term, kids []api.Terms) api.Terms {
-	if areNumeralsOf(n.Sort, kids) {
-		if result, e := calculate(n, kids[0][0].Name, kids[1][0].Name); e == api.OK {
-			return api.Terms{{Op: api.LNum, Sort: n.Sort, Name: result}}
+	if areNumerals(kids) {
+		sort, names := numbers(kids)
+		if result, e := calculate(n.Op, sort, names[0], names[1]); e == api.OK {
+			return api.Terms{{Op: api.LNum, Sort: sort, Name: result}}
 		}
 	}
 	return joined(n, kids...)
 }
 
-// calculate applies an operation to two numerals.
-func calculate(n api.Term, a, b string) (string, api.Errno) {
+// calculate applies an operation to two numerals of a sort.
+func calculate(op int, sort, a, b string) (string, api.Errno) {
 	apply := [...]func(a, b string) (string, api.Errno){num.Add, num.Sub, num.Mul}
-	if n.Sort == api.SortReal {
+	if sort == api.SortReal {
 		apply = [...]func(a, b string) (string, api.Errno){num.AddReal, num.SubReal, num.MulReal}
 	}
-	return apply[n.Op-api.LAdd](a, b)
+	return apply[op-api.LAdd](a, b)
 }
 
 // order simplifies a comparison.
 func order(n api.Term, kids []api.Terms) api.Terms {
-	compare := map[string]func(a, b string) (int, api.Errno){api.SortInt: num.Compare, api.SortReal: num.CompareReal}
-	sort := rootSort(kids[0])
-	if areNumeralsOf(sort, kids) {
-		if way, e := compare[sort](kids[0][0].Name, kids[1][0].Name); e == api.OK {
-			return Bool(way < 0 || way == 0 && n.Op == api.LLe)
-		}
+	if !areNumerals(kids) {
+		return joined(n, kids...)
 	}
-	return joined(n, kids...)
+	compare := map[string]func(a, b string) (int, api.Errno){api.SortInt: num.Compare, api.SortReal: num.CompareReal}
+	sort, names := numbers(kids)
+	way, _ := compare[sort](names[0], names[1])
+	return Bool(way < 0 || way == 0 && n.Op == api.LLe)
 }
