@@ -60,9 +60,9 @@ func load(sig api.Signature, m Model) (*interpretation, api.Errno) {
 func checkUniverses(sig api.Signature, m Model) api.Errno {
 	for i, u := range m.Universes {
 		switch {
-		case u.Sort != sig.Sorts[i]:
+		case u != Universe{sig.Sorts[i], u.Size}:
 			return api.ErrName
-		case u != Universe{u.Sort, min(max(u.Size, 1), MaxSize)}:
+		case u.Size < 1 || u.Size > MaxSize:
 			return api.ErrRange
 		}
 	}

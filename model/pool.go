@@ -188,17 +188,22 @@ func (p *pool) giver() *giver { return &giver{p, maxOwned, map[int]api.Value{}} 
 
 // give writes out a value.
 func (g *giver) give(place int) api.Value {
-	v := &g.values[place]
-	if v.size <= g.left {
-		g.left -= v.size
-		return g.owned(place)
+	size := g.values[place].size
+	if size > g.left {
+		return g.share(place)
 	}
-	given, found := g.shared[place]
+	g.left -= size
+	return g.owned(place)
+}
+
+// share writes out a value in which equal parts share their memory.
+func (g *giver) share(place int) api.Value {
+	v, found := g.shared[place]
 	if !found {
-		given = g.written(place, g.give)
-		g.shared[place] = given
+		v = g.written(place, g.share)
+		g.shared[place] = v
 	}
-	return given
+	return v
 }
 
 func (g *giver) owned(place int) api.Value { return g.written(place, g.owned) }
