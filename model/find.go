@@ -1,6 +1,7 @@
 package model
 
 import (
+	"maps"
 	"slices"
 
 	"entail/api"
@@ -11,7 +12,8 @@ import (
 const (
 	maxFormulas = 50
 	maxLimit    = 100000
-	fewElements = 3 // of a sort that is neither small nor a sort of numbers
+	maxKept     = 1 << 18 // of the values that evaluations have made
+	fewElements = 3       // of a sort that is neither small nor a sort of numbers
 )
 
 // decision is one of the elements of a sort as the result of a function for some arguments. Its conflict is the earlier
@@ -39,6 +41,9 @@ type search struct {
 	last      []int            // for each formula the last decision that it asked for, or -1
 	asking    int              // counts evaluations
 	latest    int              // the last decision that this evaluation asked for, or -1
+	base      int              // how many values there were before the first evaluation
+	room      int              // how many more are kept
+	lists     map[scope][]int  // the lists of elements before the first evaluation
 	failed    api.Errno
 }
 
@@ -56,6 +61,9 @@ func newSearch(w *world, formulas []api.Terms) (*search, api.Errno) {
 		if w.isTooLarge(r.other) || len(s.elementsOf(r.sort)) == 0 {
 			return nil, api.ErrLarge
 		}
+		for _, arg := range r.args {
+			s.elementsOf(arg)
+		}
 		s.tables = append(s.tables, r)
 		s.decided = append(s.decided, map[string]int{})
 	}
@@ -63,7 +71,18 @@ func newSearch(w *world, formulas []api.Terms) (*search, api.Errno) {
 		s.formulas = append(s.formulas, evaluationOf(in, t, nil, true, s.choose))
 		s.strict = append(s.strict, evaluationOf(in, t, nil, false, s.chosen))
 	}
+	s.base, s.room, s.lists = len(s.values), maxKept, maps.Clone(w.lists)
 	return s, api.OK
+}
+
+// tidy forgets the values that evaluations have made, if they are many. Decisions are about elements alone, which were
+// there before.
+func (s *search) tidy() {
+	if len(s.values) <= s.base+s.room {
+		return
+	}
+	s.cut(s.base)
+	s.world.lists = maps.Clone(s.lists)
 }
 
 // fillNumbers finds the elements of Int and Real: 0 and 1, and the numerals and their neighbours.
@@ -164,7 +183,6 @@ func (s *search) choose(table int, args []int) int {
 	at, found := s.decided[table][key]
 	if !found {
 		for i, arg := range args {
-			s.elementsOf(r.args[i])
 			if !s.isElement[[2]int{r.args[i], arg}] {
 				return r.other
 			}
@@ -204,6 +222,7 @@ func (s *search) run(limit int) (bool, api.Errno) {
 		if at < 0 {
 			return false, s.failed
 		}
+		s.tidy()
 		// What the formulas before this one asked for is as it was.
 		from = slices.IndexFunc(s.last, func(last int) bool { return last >= at })
 	}

@@ -26,6 +26,28 @@ func checkModel(t *testing.T, sig api.Signature, m Model, l []api.Terms) {
 	}
 }
 
+// checkTidy checks that a search that keeps no values finds the same model.
+func checkTidy(t *testing.T, sig api.Signature, l []api.Terms, size int, want Model, found bool) {
+	t.Helper()
+	w, _ := worldOf(sig, size)
+	s, e := newSearch(w, l)
+	if e != api.OK {
+		t.Fatal(e)
+	}
+	s.room = 0
+	is, e := s.run(maxLimit)
+	if is != found || e != api.OK {
+		t.Errorf("a search that keeps no values: %v, %d", is, e)
+	}
+	if !is {
+		return
+	}
+	got, _ := Print(sig, s.model(size))
+	if text, _ := Print(sig, want); got != text {
+		t.Errorf("a search that keeps no values: %s, want %s", got, text)
+	}
+}
+
 func TestFind(t *testing.T) { // P12.3
 	sig := rich()
 	for _, c := range []struct {
@@ -37,7 +59,9 @@ func TestFind(t *testing.T) { // P12.3
 		{"(forall ((x E)) (not (= (f (f ?x)) ?x)))", 2, false}, {"(forall ((x E)) (and (not (= (f (f ?x)) ?x)) (not (= (f ?x) ?x))))", 3, true}, {"(forall ((x E)) (exists ((y E)) (= (f ?y) ?x)));(exists ((x E)) (and (p ?x) (not (p (f ?x)))))", 3, true},
 		{"(< i 5);(< 3 i)", 1, true}, {"(< i 5);(< 4 i)", 1, false}, {"(< i -8)", 1, true}, {"(= (g i c) (+ i 1))", 1, true}, {"(= (* i i) 2)", 2, false}, {"(= (* 2 i) 6);(= 3 3)", 1, true}, {"(forall ((x Int)) (< (g ?x c) ?x))", 1, false}, {"(forall ((x Int)) (<= (g ?x c) ?x))", 1, true}, {"(exists ((x Int)) (= (g ?x c) (+ ?x 7)))", 1, true},
 		{"(< (r 1/2) 1/2);(< -2/1 (r 1/2))", 1, true}, {"(= (r (r 1/2)) 1/4)", 1, true}, {"(forall ((x Real)) (not (= ?x (r ?x))))", 1, true}, {"(= (len$Seq<L> (one$Seq<L> d)) 2)", 1, false}, {"(is$cons d)", 1, true}, {"(is$cons (tail d))", 2, false}, {"(p (head d));(is$cons d)", 1, true},
-		{"(exists ((l L)) (is$cons ?l))", 1, true}, {"(forall ((l L)) (is$nil ?l))", 1, false}, {"(has$Set<E> (s (one$Seq<Int> 0)) c)", 2, true}, {"(not (= (s (one$Seq<Int> 3)) empty$Set<E>))", 2, false}, {"(not (= (s empty$Seq<Int>) (s (one$Seq<Int> 1))))", 1, true}, {"(= (select$Map<Int,E> (m (const$Map<C,Int> 1)) 1) (f c));(not (= (f c) c))", 2, true},
+		{"(exists ((l L)) (is$cons ?l))", 1, true}, {"(forall ((l L)) (is$nil ?l))", 1, false}, {"(has$Set<E> (s (one$Seq<Int> 0)) c)", 2, true}, {"(not (= (s (one$Seq<Int> 3)) empty$Set<E>))", 2, false}, {"(not (= (s empty$Seq<Int>) (s (one$Seq<Int> 1))))", 1, true}, {"(= (len$Seq<Int> (cat$Seq<Int> (one$Seq<Int> i) (one$Seq<Int> (g i c)))) 3)", 2, false}, {"(= (+ (* i i) (* (g i c) (g i c))) 25)", 1, false}, {"(= (+ (* i i) (* (g i c) (g i c))) 1300)", 1, false}, {"(= (head (ite (p c) nil (cons c d))) (f c));(not (= (f c) c));(= (m (store$Map<C,Int> (const$Map<C,Int> 1) red i)) (const$Map<Int,E> c))", 2, false},
+		{"(= (diff$Map<Map<Bool,E>,Int> (const$Map<Map<Bool,E>,Int> i) (const$Map<Map<Bool,E>,Int> (g i c))) (store$Map<Bool,E> (const$Map<Bool,E> c) true (f c)))", 2, true},
+		{"(not (= i (g i c)));(not (= (diff$Map<Map<Bool,C>,Int> (const$Map<Map<Bool,C>,Int> i) (const$Map<Map<Bool,C>,Int> (g i c))) (const$Map<Bool,C> red)))", 2, false}, {"(= (select$Map<Int,E> (m (const$Map<C,Int> 1)) 1) (f c));(not (= (f c) c))", 2, true},
 	} {
 		var l []api.Terms
 		for _, s := range strings.Split(c.formulas, ";") {
@@ -49,11 +73,32 @@ func TestFind(t *testing.T) { // P12.3
 		if is != c.want || e != api.OK || !is && (m.Universes != nil || m.Domains != nil || m.Tables != nil) {
 			t.Errorf("Find of %s: %v, %d", c.formulas, is, e)
 		}
+		checkTidy(t, sig, l, c.size, m, is)
 		if is {
 			checkModel(t, sig, m, l)
 			if slices.ContainsFunc(m.Universes, func(u Universe) bool { return u.Size != c.size }) {
 				t.Errorf("Find of %s: %v", c.formulas, m.Universes)
 			}
+		}
+	}
+}
+
+func TestFindElements(t *testing.T) { // P12.3
+	sig := example()
+	sig.Funs = append(sig.Funs, fun("d", "L"), fun("e", "L"), fun("k", "L"))
+	different := []string{"(is$cons d)", "(is$cons e)", "(not (= d e))", "(is$cons k)", "(not (= d k))", "(not (= e k))"}
+	for n, want := range map[int]bool{3: true, 6: false} {
+		// Of a sort that is not small there are three elements, two of which are no nil.
+		var l []api.Terms
+		for _, s := range different[:n] {
+			l = append(l, read(t, sig, s))
+		}
+		m, is, e := Find(sig, l, 2, 1000)
+		if is != want || e != api.OK {
+			t.Errorf("Find of %v: %v, %d", different[:n], is, e)
+		}
+		if is {
+			checkModel(t, sig, m, l)
 		}
 	}
 }
@@ -343,6 +388,7 @@ func TestFindAll(t *testing.T) { // P12.3
 		if is != want || e != api.OK {
 			t.Errorf("seed %d: Find: %v, %d, want %v", seed, is, e, want)
 		}
+		checkTidy(t, sig, l, size, m, is)
 		if is {
 			checkModel(t, sig, m, l)
 		}

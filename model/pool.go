@@ -80,6 +80,14 @@ func (p *pool) put(v stored) int {
 	return place
 }
 
+// cut removes the values from a place on.
+func (p *pool) cut(from int) {
+	for _, v := range p.values[from:] {
+		delete(p.places, string(p.keyOf(v)))
+	}
+	p.values = p.values[:from]
+}
+
 // maxItems returns the greatest number of items of a kind of values.
 func maxItems(kind int) int {
 	if kind == api.VMap {

@@ -231,6 +231,27 @@ func TestSmallSorts(t *testing.T) { // P12.1
 	}
 }
 
+func TestPartsOfElements(t *testing.T) { // P12.1
+	// Sets and the keys of maps are made of the first 7 elements, which are others than the first ones of more.
+	w := newWorld(example(), []int{2})
+	for sort, want := range map[string]string{"Set<L>": "{(cons _!0 (cons _!1 nil))}", "Map<L,Bool>": "<false (cons _!0 (cons _!1 nil)):true>"} {
+		l := w.elements(scope{w.sort(sort), maxFirst, noDepth})
+		if got := say(w.giver().give(l[8])); len(l) != 65 || got != want {
+			t.Errorf("the element 8 of %s: %s", sort, got)
+		}
+	}
+	for n, want := range map[int]string{3: "nil (cons _!0 nil) (cons _!1 nil)", 4: "nil (cons _!0 nil) (cons _!0 (cons _!0 nil)) (cons _!0 (cons _!1 nil))"} {
+		g := w.giver()
+		var l []api.Value
+		for _, place := range w.elements(scope{w.sort("L"), n, noDepth}) {
+			l = append(l, g.give(place))
+		}
+		if sayAll(l) != want {
+			t.Errorf("the first %d elements of L: %s", n, sayAll(l))
+		}
+	}
+}
+
 // naive lists elements by the words of the chapter, as texts.
 type naive struct {
 	sig   api.Signature
