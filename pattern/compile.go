@@ -72,7 +72,7 @@ search:
 // branch returns the test of the part in a column.
 func (c *compiler) branch(rows []numbered, columns []column, at int) Test {
 	tested := columns[at]
-	heads := headsOf(list.Transform(rows, func(r numbered) shape { return r.row[at] }))
+	heads := headsOf(list.Transform(rows, func(r numbered) *shape { return r.row[at] }))
 	test := Test{Path: slices.Clone(tested.path), Labels: list.Transform(heads, head.label), Else: -1}
 	for _, h := range heads {
 		var parts []column

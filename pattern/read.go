@@ -12,7 +12,7 @@ import (
 // kind is what is done with the patterns of an Op: how they are read for a type, and how a value matches them.
 type kind struct {
 	op    int
-	read  func(r *reader, node int, typ string) shape
+	read  func(r *reader, node int, typ string) *shape
 	match func(m *matcher, node int, v api.Value) bool
 }
 
@@ -56,16 +56,16 @@ func checkAlone(t api.Tree) api.Errno {
 // shape is a pattern without the names of its variables: its head, if it has one, and its parts.
 type shape struct {
 	head
-	parts []shape
+	parts []*shape
 }
 
-func (s shape) hasHead() bool { return s.kind != noHead }
+func (s *shape) hasHead() bool { return s.kind != noHead }
 
 // reader reads a pattern for a type. It keeps the variables, and the first error with its node.
 type reader struct {
 	catalog
 	pattern   api.Tree
-	root      shape
+	root      *shape
 	variables []api.Bound
 	at        int
 	failed    api.Errno
@@ -92,30 +92,30 @@ func (r *reader) fail(node int, e api.Errno) {
 	}
 }
 
-func (r *reader) shape(node int, typ string) shape {
+func (r *reader) shape(node int, typ string) *shape {
 	return kindOf(r.pattern[node].Op).read(r, node, typ)
 }
 
-func (r *reader) variable(node int, typ string) shape {
+func (r *reader) variable(node int, typ string) *shape {
 	v := api.Bound{Name: r.pattern[node].Text, Sort: typ}
 	if slices.ContainsFunc(r.variables, func(o api.Bound) bool { return o.Name == v.Name }) {
 		r.fail(node, api.ErrTwice)
 	}
 	r.variables = append(r.variables, v)
-	return shape{}
+	return &shape{}
 }
 
-func (r *reader) wildcard(int, string) shape { return shape{} }
+func (r *reader) wildcard(int, string) *shape { return &shape{} }
 
 // construction reads the parts that have fields before it tells that their number is wrong.
-func (r *reader) construction(node int, typ string) shape {
+func (r *reader) construction(node int, typ string) *shape {
 	n := r.pattern[node]
 	k, found := r.meaning(typ).constructor(n.Text)
 	if !found {
 		r.fail(node, api.ErrUnknown)
-		return shape{}
+		return &shape{}
 	}
-	s := shape{head: head{kind: aConstructor, name: k.name}}
+	s := &shape{head: head{kind: aConstructor, name: k.name}}
 	for i := range min(len(n.Kids), len(k.fields)) {
 		s.parts = append(s.parts, r.shape(n.Kids[i], k.fields[i]))
 	}
@@ -125,18 +125,18 @@ func (r *reader) construction(node int, typ string) shape {
 	return s
 }
 
-func (r *reader) literal(node int, typ string) shape {
+func (r *reader) literal(node int, typ string) *shape {
 	m := r.meaning(typ)
 	h := literalAt(r.pattern, node)
 	if h.kind != m.kind {
 		r.fail(node, api.ErrType)
-		return shape{}
+		return &shape{}
 	}
 	h.width = m.width
 	if h.width != "" && value.Check(h.bits()) != api.OK {
 		r.fail(node, api.ErrRange)
 	}
-	return shape{head: h}
+	return &shape{head: h}
 }
 
 // literalAt returns the head of a literal in a pattern, without a width.
@@ -153,7 +153,7 @@ func literalAt(t api.Tree, node int) head {
 }
 
 // treeOf returns the pattern that has a shape, with wildcards where it has no heads.
-func treeOf(s shape) (api.Tree, api.Errno) {
+func treeOf(s *shape) (api.Tree, api.Errno) {
 	t := appendPattern(nil, s)
 	if _, e := tree.Check(t); e != api.OK {
 		return nil, e
@@ -161,7 +161,7 @@ func treeOf(s shape) (api.Tree, api.Errno) {
 	return t, api.OK
 }
 
-func appendPattern(t api.Tree, s shape) api.Tree {
+func appendPattern(t api.Tree, s *shape) api.Tree {
 	switch s.kind {
 	case aConstructor:
 		root := api.Node{Op: api.PCons, Text: s.name}

@@ -13,7 +13,7 @@ import (
 const maxRows = 20000
 
 // row is a list of patterns for a list of types.
-type row []shape
+type row []*shape
 
 func (r row) rest() row { return r[1:] }
 
@@ -30,7 +30,7 @@ func (d detail) row(r row) (row, bool) {
 	s := r[d.place]
 	switch {
 	case !s.hasHead():
-		s.parts = make([]shape, d.parts)
+		return replaced(r, d.place, slices.Repeat(row{s}, d.parts)), true
 	case s.head != d.head:
 		return nil, false
 	}
@@ -57,7 +57,7 @@ func replaced[A any](l []A, at int, by []A) []A {
 }
 
 // headsOf returns the heads of some patterns in their order, each once.
-func headsOf(patterns []shape) []head {
+func headsOf(patterns []*shape) []head {
 	var heads []head
 	seen := map[head]bool{}
 	for _, s := range patterns {
@@ -71,7 +71,7 @@ func headsOf(patterns []shape) []head {
 
 // firstHeads returns the heads at the first place of some rows.
 func firstHeads(rows []row) []head {
-	return headsOf(list.Transform(rows, func(r row) shape { return r[0] }))
+	return headsOf(list.Transform(rows, func(r row) *shape { return r[0] }))
 }
 
 // search asks questions about rows, and counts them.
@@ -159,7 +159,7 @@ func (s *search) missing(rows []row, types []string) (row, bool) {
 	heads := firstHeads(rows)
 	if len(heads) == 0 {
 		found, is := s.missing(list.Transform(rows, row.rest), types[1:])
-		return append(row{{}}, found...), is
+		return append(row{&shape{}}, found...), is
 	}
 	for _, h := range s.asked(types[0], heads) {
 		if s.isSpent() {
@@ -169,7 +169,7 @@ func (s *search) missing(rows []row, types []string) (row, bool) {
 		special := detail{0, h, len(parts)}
 		found, is := s.missing(selected(rows, special.row), replaced(types, 0, parts))
 		if is {
-			first := shape{h, found[:len(parts)]}
+			first := &shape{h, found[:len(parts)]}
 			return append(row{first}, found[len(parts):]...), true
 		}
 	}
