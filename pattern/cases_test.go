@@ -111,7 +111,7 @@ func TestListErrors(t *testing.T) { // P10.1, P10.2, P10.3
 		want api.Errno
 	}{
 		{nil, "x", many, api.ErrEmpty}, {pat(t, "_"), "int", many, api.ErrKind}, {p, "x", many, api.ErrSyntax}, {p, "Nowhere", many, api.ErrUnknown}, {p, "Box", many, api.ErrArgs}, {p, "Round", many, api.ErrCycle}, {p, "seq<Round>", many, api.ErrCycle}, {p, "D", many, api.ErrMany}, {p, "D", []api.Tree{nil}, api.ErrEmpty},
-		{p, "D", []api.Tree{{{Op: api.EInt, Text: "1"}}}, api.ErrKind}, {p, "D", pats(t, "Nil;Cons(x, x);0"), api.ErrTwice}, {p, "D", pats(t, "Nil;0;Cons(x, x)"), api.ErrType}, {p, "D", pats(t, "Cons(1)"), api.ErrArgs}, {p, "D", pats(t, "Red"), api.ErrUnknown}, {p, "bv2", pats(t, "3;4"), api.ErrRange},
+		{p, "D", []api.Tree{{{Op: api.EInt, Text: "1"}}}, api.ErrKind}, {p, "D", pats(t, "Nil;Cons(x, x);0"), api.ErrTwice}, {p, "D", pats(t, "Nil;0;Cons(x, x)"), api.ErrType}, {p, "D", pats(t, "Cons(1)"), api.ErrArgs}, {p, "D", pats(t, "_;Cons(true);0"), api.ErrArgs}, {p, "D", pats(t, "Cons(0, Other, x)"), api.ErrArgs}, {p, "D", pats(t, "Cons(0, Cons(true))"), api.ErrArgs}, {p, "D", pats(t, "Red"), api.ErrUnknown}, {p, "bv2", pats(t, "3;4"), api.ErrRange},
 	} {
 		for name, ask := range asks() {
 			if e, more := ask(c.p, c.typ, c.l); e != c.want || more {
@@ -125,7 +125,7 @@ func TestListErrors(t *testing.T) { // P10.1, P10.2, P10.3
 		}
 	}
 	// The pattern of Useful comes behind the list.
-	for s, want := range map[string]api.Errno{"0": api.ErrType, "Cons(x, x)": api.ErrTwice, "Nil(_)": api.ErrArgs} {
+	for s, want := range map[string]api.Errno{"0": api.ErrType, "Cons(x, x)": api.ErrTwice, "Nil(_)": api.ErrArgs, "Cons(true)": api.ErrArgs, "Cons(0, Cons(x, x, x))": api.ErrArgs} {
 		if is, e := Useful(p, "D", pats(t, "Nil"), pat(t, s)); is || e != want {
 			t.Errorf("Useful of %s: %v, %d", s, is, e)
 		}

@@ -49,11 +49,14 @@ func TestCheckErrors(t *testing.T) { // P10.1
 		{"D", "0", 1, api.ErrType}, {"D", "-1", 2, api.ErrType}, {"bool", "0", 1, api.ErrType}, {"int", "true", 1, api.ErrType}, {"real", "0", 1, api.ErrType}, {"seq<int>", "1", 1, api.ErrType}, {"Cell", "1", 1, api.ErrType}, {"Cell", "Cell", 0, api.ErrUnknown},
 		{"int", "Nil", 0, api.ErrUnknown}, {"bool", "Nil(x, x)", 2, api.ErrUnknown}, {"array<D>", "Nil", 0, api.ErrUnknown}, {"seq<D>", "Nil", 0, api.ErrUnknown}, {"bv8", "true", 1, api.ErrType}, {"bv8", "256", 1, api.ErrRange}, {"bv8", "-1", 2, api.ErrRange}, {"bv1", "2", 1, api.ErrRange},
 		{"bv64", "18446744073709551616", 1, api.ErrRange}, {"Box<bool>", "Full(1)", 1, api.ErrType}, {"Box<Nat>", "Full(true)", 1, api.ErrType}, {"Sub", "Full(0)", 1, api.ErrType}, {"Mix", "Mix2(1, _, _, _)", 1, api.ErrType}, {"Mix", "Mix2(_, _, 4, _)", 3, api.ErrRange},
-		// The parts that have fields are looked at, also where there are too many or too few; the parts beyond are not.
-		{"D", "Cons(true)", 1, api.ErrType}, {"D", "Cons(1, 2, true)", 3, api.ErrType}, {"D", "Cons(1, _, One)", 4, api.ErrArgs}, {"D", "Cons(x, _, x)", 3, api.ErrArgs}, {"D", "Nil(One, One)", 2, api.ErrArgs},
+		// No part of a constructor with a wrong number of parts is looked at, neither one that has a field nor one beyond.
+		{"D", "Cons(true)", 2, api.ErrArgs}, {"D", "Cons(Nil)", 1, api.ErrArgs}, {"D", "Cons(One(x, x))", 3, api.ErrArgs}, {"D", "Cons(true, Nil, x)", 4, api.ErrArgs}, {"D", "Cons(0, Other, x)", 4, api.ErrArgs}, {"D", "Cons(x, x, x)", 3, api.ErrArgs}, {"D", "Cons(Nil(1), _, _)", 5, api.ErrArgs},
+		{"D", "Cons(1, 2, true)", 6, api.ErrArgs}, {"D", "Cons(1, _, One)", 4, api.ErrArgs}, {"D", "Cons(x, _, x)", 3, api.ErrArgs}, {"D", "Nil(x, x)", 2, api.ErrArgs}, {"D", "Nil(One, One)", 2, api.ErrArgs}, {"D", "Nil(Nil(Nil(1)))", 4, api.ErrArgs}, {"Mix", "Mix2(true, 0, 4)", 6, api.ErrArgs}, {"Sub", "Full(1, 1)", 4, api.ErrArgs}, {"Mix", "Mix3(true, 32)", 4, api.ErrArgs},
+		// The same inside of a right constructor, where errors before it come first and those behind it do not.
+		{"D", "Cons(0, Cons(true))", 4, api.ErrArgs}, {"D", "Cons(true, Cons(true))", 1, api.ErrType}, {"D", "Cons(x, Cons(x))", 2, api.ErrArgs}, {"D", "Cons(x, Cons(y, Cons(x, y, x)))", 5, api.ErrArgs}, {"D", "Cons(x, Cons(x, Nil(true)))", 1, api.ErrTwice}, {"D", "Cons(0, Nil(Cons(x)))", 4, api.ErrArgs}, {"Mix", "Mix1(0, Full(true, 1), One)", 6, api.ErrArgs}, {"Mix", "Mix1(true, Full, 0)", 1, api.ErrType},
 		// Nodes below a wrong constructor are not looked at.
 		{"D", "One(x, x, 1, Nil(_))", 6, api.ErrUnknown}, {"D", "Cons(One(x, x), true)", 2, api.ErrUnknown},
-		{"Odd", "Bad(1)", 1, api.ErrType}, {"Odd", "Ill(Empty)", 0, api.ErrUnknown}, {"Odd", "Any(Red)", 0, api.ErrUnknown}, {"Same", "S(true, 1)", 1, api.ErrType}, {"Same", "S(1, 1)", 4, api.ErrArgs},
+		{"Odd", "Bad(1)", 1, api.ErrType}, {"Odd", "Ill(Empty)", 0, api.ErrUnknown}, {"Odd", "Any(Red)", 0, api.ErrUnknown}, {"Same", "S(true)", 1, api.ErrType}, {"Same", "S(true, 1)", 4, api.ErrArgs}, {"Same", "S(1, 1)", 4, api.ErrArgs},
 	} {
 		vars, at, e := Check(p, c.typ, pat(t, c.pattern))
 		if len(vars) > 0 || at != c.at || e != c.want {

@@ -107,20 +107,21 @@ func (r *reader) variable(node int, typ string) *shape {
 
 func (r *reader) wildcard(int, string) *shape { return &shape{} }
 
-// construction reads the parts that have fields before it tells that their number is wrong.
+// construction looks at the number of the parts first: below a wrong node no part is looked at, although its index is less.
 func (r *reader) construction(node int, typ string) *shape {
 	n := r.pattern[node]
 	k, found := r.meaning(typ).constructor(n.Text)
-	if !found {
+	switch {
+	case !found:
 		r.fail(node, api.ErrUnknown)
+		return &shape{}
+	case len(n.Kids) != len(k.fields):
+		r.fail(node, api.ErrArgs)
 		return &shape{}
 	}
 	s := &shape{head: head{kind: aConstructor, name: k.name}}
-	for i := range min(len(n.Kids), len(k.fields)) {
-		s.parts = append(s.parts, r.shape(n.Kids[i], k.fields[i]))
-	}
-	if len(n.Kids) != len(k.fields) {
-		r.fail(node, api.ErrArgs)
+	for i, kid := range n.Kids {
+		s.parts = append(s.parts, r.shape(kid, k.fields[i]))
 	}
 	return s
 }
